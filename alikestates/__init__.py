@@ -1,0 +1,1 @@
+"""Likeness: states that behave alike."""
