@@ -38,8 +38,33 @@ def groups_by_steps(system):
     return found
 
 
-def steps_to_part(system, s, t):
-    for steps, groups in enumerate(groups_by_steps(system)):
+def steps_to_part(found, s, t):
+    for steps, groups in enumerate(found):
         if groups[s] != groups[t]:
             return steps
     return None
+
+
+def classes_of(system):
+    return groups_by_steps(system)[-1]
+
+
+def is_likeness(system, numbering):
+    marks = {}
+    for number, mark in zip(numbering, marks_for_one_step_more(system, numbering)):
+        if marks.setdefault(number, mark) != mark:
+            return False
+    return True
+
+
+def make_smallest(system):
+    classes = classes_of(system)
+    colours = []
+    for number, colour in zip(classes, system.colours):
+        if number == len(colours):
+            colours.append(colour)
+    arcs = {}
+    for s, label, t in system.arcs:
+        arcs[(classes[s], label, classes[t])] = True
+    system.colours = colours
+    system.arcs = arcs

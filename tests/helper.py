@@ -1,6 +1,8 @@
-"""Calls by their names, and the document's words on likeness, said as plainly as can be."""
+"""Calls by their names, and the document's words on likeness and formulas, said as plainly as can be."""
 
+import functools
 import random
+import re
 
 from alikestates.system import answers
 
@@ -39,12 +41,75 @@ def depth(s, t):
     return [8, s, t]
 
 
+def number(s):
+    return [9, s]
+
+
+def count():
+    return [10]
+
+
+def tell(s, t):
+    return [11, s, t]
+
+
+def bytes_of(text):
+    return list(text.encode("latin-1")) if isinstance(text, str) else list(text)
+
+
+def holds(s, text):
+    return [12, s, len(text)] + bytes_of(text)
+
+
+def where(text):
+    return [13, len(text)] + bytes_of(text)
+
+
+def check(numbers):
+    return [14, len(numbers)] + list(numbers)
+
+
+def quotient():
+    return [15]
+
+
+def flat(calls):
+    return [number for call in calls for number in call]
+
+
+def laid(number, numbers=(), text=""):
+    """An answer as the interface lays it out."""
+    if not numbers and not text:
+        return [number]
+    return [number, len(numbers), *numbers, len(text), *bytes_of(text)]
+
+
+def fault(place):
+    return laid(-3, [place])
+
+
+def answers_to(calls):
+    """What is answered to each of the calls, in order."""
+    if len(calls) > 400 or len(flat(calls)) > 30000:
+        raise AssertionError("more than one list may have")
+    given = answers(flat(calls))
+    found = []
+    at = 0
+    while at < len(given):
+        end = at + 1 + given[at]
+        found.append(given[at + 1:end])
+        at = end
+    if at != len(given) or len(found) != len(calls):
+        raise AssertionError(f"not an answer for each call: {given}")
+    return found
+
+
 def numbers_of(calls):
     """What is answered to calls that each answer a number alone."""
-    given = answers([number for call in calls for number in call])
-    if len(given) != 2 * len(calls) or given[0::2] != [1] * len(calls):
+    given = answers_to(calls)
+    if any(len(answer) != 1 for answer in given):
         raise AssertionError(f"not a number alone for each call: {given}")
-    return given[1::2]
+    return [answer[0] for answer in given]
 
 
 def building(colours, arcs):
@@ -58,6 +123,34 @@ def answered(colours, arcs, asked):
     """What the asked calls answer in the system of these colours and arcs."""
     before = building(colours, arcs)
     return numbers_of(before + asked)[len(before):]
+
+
+def told(colours, arcs, asked):
+    """What each of the asked calls answers in the system of these colours and arcs."""
+    before = building(colours, arcs)
+    return answers_to(before + asked)[len(before):]
+
+
+def questioned(colours, arcs, asked):
+    """As told, but for however many questions: they are asked in as many lists as they need."""
+    before = building(colours, arcs)
+    room = 30000 - len(flat(before))
+    found = []
+    part = []
+    for call in asked:
+        if len(before) + len(part) == 400 or len(flat(part)) + len(call) > room:
+            found += told(colours, arcs, part)
+            part = []
+        part.append(call)
+    return found + told(colours, arcs, part)
+
+
+def picture(size):
+    """Calls that show all there is of a small system with labels 0 to 2 and 63."""
+    shown = [look(s) for s in range(size + 1)]
+    for s, t in pairs(size):
+        shown += [has(s, label, t) for label in (0, 1, 2, 63)] + [same(s, t), depth(s, t)]
+    return shown
 
 
 def pairs(size):
@@ -113,3 +206,136 @@ def made_systems(count, seed):
         arcs = {(source.randrange(size), source.choice(labels), source.randrange(size))
                 for put in range(source.randint(0, 3 * size))}
         yield colours, source.sample(sorted(arcs), len(arcs))
+
+
+def classes_by_words(colours, arcs):
+    """The number of each state's class: the classes by their first states."""
+    depths = depth_by_words(colours, arcs)
+    size = len(colours)
+    firsts = [min(t for t in range(size) if depths[s, t] == -2) for s in range(size)]
+    return [sorted(set(firsts)).index(first) for first in firsts]
+
+
+def formula_by_words(colours, arcs):
+    """A function of s and t: the formula that tells s from t, or None where it has more than 500 bytes."""
+    depths = depth_by_words(colours, arcs)
+    ordered = sorted(arcs, key=lambda arc: (arc[1], arc[2]))
+
+    def leading(s, label):
+        return sorted(v for start, other, v in arcs if start == s and other == label)
+
+    @functools.lru_cache(maxsize=None)
+    def formula(s, t):
+        steps = depths[s, t]
+        if steps == 0:
+            return f"c{colours[s]}"
+        for start, label, u in ordered:
+            rivals = leading(t, label)
+            if start == s and all(0 <= depths[u, v] <= steps - 1 for v in rivals):
+                return short(f"<{label}>", joined(formula(u, v) for v in rivals) if rivals else "t")
+        return short("!", formula(t, s))
+
+    return formula
+
+
+def short(*texts):
+    """The texts as one, or None where they have more than 500 bytes."""
+    if None in texts or len("".join(texts)) > 500:
+        return None
+    return "".join(texts)
+
+
+def joined(texts):
+    first, *others = texts
+    return short("(", first, "&", joined(others), ")") if others else first
+
+
+def written(tree):
+    """The text of a formula that is kept as its parts within one another."""
+    if tree[0] == "t":
+        return "t"
+    if tree[0] == "c":
+        return f"c{tree[1]}"
+    if tree[0] == "!":
+        return "!" + written(tree[1])
+    if tree[0] == "&":
+        return f"({written(tree[1])}&{written(tree[2])})"
+    return f"<{tree[1]}>{written(tree[2])}"
+
+
+def holding(colours, arcs, tree):
+    """The states at which the formula holds."""
+    every = set(range(len(colours)))
+    if tree[0] == "t":
+        return every
+    if tree[0] == "c":
+        return {s for s in every if colours[s] == tree[1]}
+    if tree[0] == "!":
+        return every - holding(colours, arcs, tree[1])
+    if tree[0] == "&":
+        return holding(colours, arcs, tree[1]) & holding(colours, arcs, tree[2])
+    reached = holding(colours, arcs, tree[2])
+    return {s for s, label, t in arcs if label == tree[1] and t in reached}
+
+
+def made_formulas(number_of_them, seed, shades=range(4), labels=range(4), deep=5):
+    """Formulas of many forms, kept as their parts; the same ones for the same seed."""
+    source = random.Random(seed)
+
+    def made(left):
+        form = source.choice("tc!&<<" if left else "tc")
+        if form == "c":
+            return ("c", source.choice(shades))
+        if form == "!":
+            return ("!", made(left - 1))
+        if form == "&":
+            return ("&", made(left - 1), made(left - 1))
+        return ("<", source.choice(labels), made(left - 1)) if form == "<" else ("t",)
+
+    return [made(source.randint(0, deep)) for turn in range(number_of_them)]
+
+
+@functools.lru_cache(maxsize=None)
+def fallen_together(text):
+    """The text, each whole formula in it now an F."""
+    before = None
+    text = text.replace("F", "?")
+    while text != before:
+        before = text
+        text = re.sub(r"t|c[0-9]+|!F|<[0-9]+>F|\(F&F\)", "F", text)
+    return text
+
+
+def may_begin(text):
+    """Whether some formula begins with this text: but for the last whole formula all that's left are openings."""
+    return re.fullmatch(r"(!|\((F&)?|<[0-9]+>)*(F|c|<[0-9]*)?", fallen_together(text)) is not None
+
+
+def fault_by_words(text):
+    """The fault of a text that isn't nested too deep, or None for a formula."""
+    for at in range(len(text)):
+        if not may_begin(text[:at + 1]):
+            return at
+        digits = re.match("[0-9]*", text[at:]).group()
+        if digits and text[:at][-1:] in ("c", "<"):
+            if str(int(digits)) != digits or int(digits) > (255 if text[at - 1] == "c" else 63):
+                return at
+    return None if fallen_together(text) == "F" else len(text)
+
+
+def steps_within(text):
+    """How many times the < > of a formula stand within one another."""
+    steps = re.sub(r"<[0-9]+>", "<", text)
+    most = 0
+    open_steps = [0]
+    for sign in steps:
+        if sign == "<":
+            open_steps[-1] += 1
+            most = max(most, open_steps[-1])
+        elif sign == "(":
+            open_steps += [open_steps[-1]]
+        elif sign == "&":
+            open_steps[-1] = open_steps[-2]
+        elif sign == ")":
+            open_steps.pop()
+    return most

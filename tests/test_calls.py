@@ -1,9 +1,10 @@
-"""The eight calls at ordinary inputs and at the edges, and how the answers are laid out."""
+"""How the answers are laid out, and the calls that make a system and look at it."""
 
 import unittest
 
 from alikestates.system import answers
-from helper import MOST, answered, arc, building, cut, depth, has, init, look, numbers_of, paint, same
+from helper import MOST, answered, arc, building, check, count, cut, depth, flat, has, holds, init, look, number
+from helper import numbers_of, paint, quotient, same, tell, told, where
 
 # As many arcs as may be: 32 states with eight labels each.
 FULL = [(s, label, (s + label) % 32) for s in range(32) for label in range(8)]
@@ -16,6 +17,33 @@ class Layout(unittest.TestCase):
 
     def test_refusals_are_laid_out_as_one_number(self):
         self.assertEqual(answers([6, 0, 1, 0, 1, 1, 6, 1, 8, 0, 0]), [1, -8, 1, -1, 1, 0, 1, -1, 1, -2])
+
+    def test_the_numbers_of_the_calls_with_rows(self):
+        calls = [1, 3, 3, 0, 1, 1, 3, 2, 1, 2, 9, 2, 10, 11, 2, 1, 12, 2, 4, 60, 49, 62, 116, 6, 1, 13, 1, 116]
+        calls += [14, 3, 0, 1, 2, 8, 0, 2, 15, 10]
+        self.assertEqual(answers(calls), [
+            1, 0, 1, 0, 1, 0, 1, 2, 1, 3, 7, 4, 0, 4, 60, 49, 62, 116, 1, 1, 1, 0, 6, 3, 3, 0, 1, 2, 0,
+            1, 1, 1, 2, 1, 3, 1, 3])
+
+    def test_a_list_and_a_text_each_with_its_count_before_it(self):
+        # where at 0 and 2; tell of c0; the place of a fault
+        self.assertEqual(answers([1, 3, 2, 1, 7, 13, 2, 99, 48]), [1, 0, 1, 0, 5, 2, 2, 0, 2, 0])
+        self.assertEqual(answers([1, 3, 2, 1, 7, 11, 0, 1]), [1, 0, 1, 0, 5, 2, 0, 2, 99, 48])
+        self.assertEqual(answers([1, 3, 13, 2, 33, 99]), [1, 0, 4, -3, 1, 2, 0])
+        self.assertEqual(answers([1, 3, 12, 0, 0]), [1, 0, 4, -3, 1, 0, 0])
+
+    def test_a_number_alone_where_list_and_text_are_empty(self):
+        # where at no state, tell of the same states, a text that is too long
+        self.assertEqual(answers([1, 3, 13, 2, 99, 49]), [1, 0, 1, 0])
+        self.assertEqual(answers([1, 3, 11, 0, 1, 14, 0]), [1, 0, 1, -2, 1, -1])
+        self.assertEqual(answers([1, 3, 13, 10001] + [116] * 10001), [1, 0, 1, -2])
+
+    def test_rows_between_calls_of_numbers_alone(self):
+        asked = [number(2), look(1), where("c5"), has(0, 1, 1), tell(1, 0), same(0, 0), holds(1, "!c5"), count(),
+                 check([7, 8, 7]), depth(0, 1), where(""), look(0), quotient(), where("t"), look(2), number(1)]
+        self.assertEqual(told([5, 0, 5], [], asked), [
+            [0], [0], [2, 2, 0, 2, 0], [0], [2, 0, 2, 99, 48], [1], [1], [2], [1], [0], [-3, 1, 0, 0], [5], [2],
+            [2, 2, 0, 1, 0], [-1], [1]])
 
     def test_one_call_alone(self):
         self.assertEqual(answers([1, 1]), [1, 0])
@@ -146,15 +174,16 @@ class Unchanging(list):
 
 class NothingKept(unittest.TestCase):
     def test_what_is_handed_in_stays_as_it_was(self):
-        calls = [number for call in building([1, 0, 2], [(0, 1, 1), (2, 1, 2)]) for number in call]
-        calls += [4, 0, 1, 1, 7, 0, 2, 8, 0, 2, 6, 9, 1, 33, 1, 2, 2, 1, 300]
+        calls = flat(building([1, 0, 2], [(0, 1, 1), (2, 1, 2)]))
+        calls += [4, 0, 1, 1, 7, 0, 2, 8, 0, 2, 6, 9, 1, 33, 9, 2, 10, 11, 2, 0, 12, 0, 2, 33, 116, 13, 1, 116]
+        calls += [14, 3, 0, 1, 2, 14, 1, 9, 13, 0, 15, 15, 1, 2, 2, 1, 300]
         kept = list(calls)
         answers(calls)
         self.assertEqual(calls, kept)
         self.assertEqual(answers(Unchanging(calls)), answers(kept))
 
     def test_the_same_list_answers_the_same_again(self):
-        calls = [number for call in building([0, 0], [(0, 1, 1)]) for number in call]
+        calls = flat(building([0, 0], [(0, 1, 1)]))
         self.assertEqual(answers(calls), [1, 0, 1, 0])
         self.assertEqual(answers(calls), [1, 0, 1, 0])
 
@@ -162,6 +191,12 @@ class NothingKept(unittest.TestCase):
         answers([1, 3, 2, 0, 5])
         self.assertEqual(answers([6, 0]), [1, -8])
         self.assertEqual(answers([1, 3, 6, 0]), [1, 0, 1, 0])
+
+    def test_a_quotient_of_one_list_says_nothing_in_the_next(self):
+        before = flat(building([0] * 3, [(0, 1, 1), (1, 1, 1)]))
+        self.assertEqual(answers(before + [15, 6, 2]), [1, 0, 1, 0, 1, 0, 1, 2, 1, -1])
+        self.assertEqual(answers(before + [10, 6, 2]), [1, 0, 1, 0, 1, 0, 1, 2, 1, 0])
+        self.assertEqual(answers([10, 15, 13, 1, 116]), [1, -8, 1, -8, 1, -8])
 
     def test_what_was_given_back_may_be_changed(self):
         given = answers([1, 1, 6, 0])

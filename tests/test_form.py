@@ -22,6 +22,11 @@ BUILTINS = (
     "ord repr any all divmod Exception ValueError TypeError KeyError IndexError LookupError ZeroDivisionError "
     "ArithmeticError OverflowError RuntimeError NotImplementedError AttributeError StopIteration").split()
 
+METHODS = (
+    "append clear copy count endswith extend find get index insert isalnum isalpha isdigit islower isspace isupper "
+    "items join keys ljust lower lstrip partition pop remove replace reverse rfind rjust rpartition rsplit rstrip "
+    "setdefault split splitlines startswith strip update upper values zfill bit_length").split()
+
 UNUSED_WORDS = re.compile(
     r"\b(type|typing|typing_extensions|enum|Enum|IntEnum|StrEnum|Flag|IntFlag|Generic|Protocol|ABC|ABCMeta|namedtuple"
     r"|NamedTuple|TypedDict|TYPE_CHECKING|abstractmethod)\b|dataclass|overload|contextmanager")
@@ -45,6 +50,20 @@ def names_bound(tree):
         elif isinstance(node, ast.ExceptHandler) and node.name:
             bound.add(node.name)
     return bound
+
+
+def own_classes():
+    return [node for path in FILES for node in tree_of(path).body if isinstance(node, ast.ClassDef)]
+
+
+def own_methods():
+    return {part.name for node in own_classes() for part in node.body if isinstance(part, ast.FunctionDef)}
+
+
+def own_values():
+    stored = [node for path in FILES for node in ast.walk(tree_of(path))
+              if isinstance(node, ast.Attribute) and isinstance(node.ctx, ast.Store)]
+    return {node.attr for node in stored}
 
 
 class Form(unittest.TestCase):
@@ -106,6 +125,44 @@ class Form(unittest.TestCase):
             for node in ast.walk(tree):
                 if isinstance(node, ast.Name):
                     self.assertTrue(node.id in bound or node.id in BUILTINS, (path, node.lineno, node.id))
+
+    def test_methods_and_values(self):
+        self.assertEqual(own_methods() & own_values(), set())
+        for name in own_methods() | own_values():
+            for kind in (str, int, list, tuple, dict, set, bytes):
+                self.assertTrue(name == "__init__" or not hasattr(kind, name), name)
+        for path in FILES:
+            for node in ast.walk(tree_of(path)):
+                if isinstance(node, ast.Call) and isinstance(node.func, ast.Attribute):
+                    self.assertIn(node.func.attr, own_methods() | set(METHODS), (path, node.lineno))
+
+    def test_errors(self):
+        names = [node.name for node in own_classes() if node.bases]
+        for path in FILES:
+            for node in ast.walk(tree_of(path)):
+                if isinstance(node, ast.Raise):
+                    self.assertIn(node.exc.func.id, names, (path, node.lineno))
+                if isinstance(node, ast.ExceptHandler):
+                    self.assertIn(node.type.id, names, (path, node.lineno))
+
+    def test_sets_stand_where_they_are_not_kept(self):
+        for path in FILES:
+            tree = tree_of(path)
+            called = [node for node in ast.walk(tree) if isinstance(node, ast.Call) and isinstance(node.func, ast.Name)]
+            within = [part for node in called if node.func.id in ("len", "sorted") for part in node.args]
+            for node in called:
+                self.assertTrue(node.func.id != "set" or node in within, (path, node.lineno))
+            self.assertEqual([node for node in ast.walk(tree) if isinstance(node, ast.Set)], [], path)
+
+    def test_numbers_and_texts(self):
+        for path in FILES:
+            for node in ast.walk(tree_of(path)):
+                self.assertNotIsInstance(node, (ast.Div, ast.Pow), (path, getattr(node, "lineno", 0)))
+                if isinstance(node, ast.Constant):
+                    self.assertNotIsInstance(node.value, (float, bytes), (path, node.lineno))
+                    self.assertFalse(isinstance(node.value, str) and "%" in node.value, (path, node.lineno))
+                if isinstance(node, ast.FormattedValue):
+                    self.assertIsInstance(node.value, ast.Name, (path, node.lineno))
 
 
 if __name__ == "__main__":
